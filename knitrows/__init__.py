@@ -1,0 +1,1 @@
+"""Knitting by patterns: see knitrows.patterns."""
